@@ -1,5 +1,6 @@
 """The machine at one end: it minds the light, by the right, by who waits and by who asks."""
 
+from onelane.message import ASK, is_right_ask, turn_of
 from onelane.right import HAS, WRONG_NUMBER, Right
 
 # Below every turn, so that an end that was never asked needs no case of its own.
@@ -42,6 +43,30 @@ class Works:
         self.waiting = yes == 1
         self.look()
         return 0
+
+    def rw_heard(self, message):
+        if is_right_ask(message, self.right.other_end()):
+            self.ask = max(self.ask, turn_of(message))
+            self.look()
+            return 0
+        answer = self.right.rl_heard(message)
+        if answer == 0:
+            self.look()
+        return answer
+
+    def rw_tick(self):
+        self.right.rl_tick()
+        if self.right.green:
+            self.green_ticks += 1
+        if self.right.is_tenth_tick() and self.waiting and not self.has_right():
+            self.right.send_message(ASK, self.right.turn, 0)
+        self.look()
+        return 0
+
+    def rw_state(self):
+        green_ticks = self.green_ticks if self.right.green else 0
+        asked = 1 if self.is_asked() else 0
+        return self.right.rl_state() + [green_ticks, asked]
 
     def has_right(self):
         return self.right.standing == HAS

@@ -1,4 +1,7 @@
-"""The part: the right to the lane (its messages, and its promises 1 to 3)."""
+"""The part: the right to the lane (its messages, and its promises 1 to 3).
+
+Its promises 4 and 5 are tested by the calls that rest on them, rw_heard, rw_tick and rw_state.
+"""
 
 import unittest
 
